@@ -1,0 +1,87 @@
+"""What the document says of all calls: which numbers a body may have, and what a call leaves as it was."""
+
+import contextlib
+import io
+import unittest
+
+from known_bodies import KNOWN, NOT_BODIES, flat
+from wholepoints.bodies import er_corners, er_sides
+
+CALLS = [
+    ("er_corners", er_corners),
+    ("er_sides", lambda body: er_sides(1000000, body)),
+    ("er_sides of most 0", lambda body: er_sides(0, body)),
+]
+BODIES = [flat(d, points) for name, d, points, corners, sides in KNOWN]
+LISTS = BODIES + [body for name, body in NOT_BODIES]
+
+
+def refuse(*told, **named):
+    raise AssertionError("what was handed in is changed")
+
+
+class Fixed(list):
+    """A list that can't be changed, not for a while either."""
+
+    append = extend = insert = pop = remove = clear = sort = reverse = refuse
+    __setitem__ = __delitem__ = __iadd__ = __imul__ = refuse
+
+
+class Bounds(unittest.TestCase):
+    def test_every_number_of_every_point_is_held_to_its_bounds(self):
+        for body in BODIES:
+            for place in range(2, len(body)):
+                for number in (-128, -5, 5, 127):
+                    changed = body[:place] + [number] + body[place + 1:]
+                    for name, call in CALLS:
+                        self.assertEqual(call(changed), [-2], (name, changed))
+
+    def test_the_bounds_themselves_are_allowed(self):
+        self.assertEqual(er_corners([1, 2, -4, 4]), [3])
+        self.assertEqual(er_corners([1, 12, -4, 4] + [0] * 10), [3])
+        self.assertEqual(er_corners([4, 5] + [-4] * 4 + [4] + [-4] * 4 + [4] + [-4] * 4 + [4] + [-4] * 4 + [4]), [31])
+
+    def test_what_is_handed_in_stays(self):
+        for body in LISTS:
+            for name, call in CALLS:
+                handed = list(body)
+                call(handed)
+                self.assertEqual(handed, body, name)
+
+    def test_what_is_handed_in_is_not_changed_for_a_while_either(self):
+        for body in LISTS:
+            for name, call in CALLS:
+                self.assertEqual(call(Fixed(body)), call(body), name)
+
+    def test_the_same_call_gives_the_same_answer(self):
+        first = [call(body) for body in LISTS for name, call in CALLS]
+        again = [call(body) for body in LISTS for name, call in CALLS]
+        self.assertEqual(first, again)
+
+    def test_an_answer_is_not_kept(self):
+        for body in LISTS:
+            for name, call in CALLS:
+                answer = call(body)
+                kept = list(answer)
+                answer.append(7)
+                self.assertEqual(call(body), kept, name)
+
+    def test_answers_are_lists_of_whole_numbers(self):
+        for body in LISTS:
+            for name, call in CALLS:
+                answer = call(body)
+                self.assertIs(type(answer), list, name)
+                for number in answer:
+                    self.assertIs(type(number), int, name)
+
+    def test_nothing_is_printed(self):
+        out = io.StringIO()
+        with contextlib.redirect_stdout(out), contextlib.redirect_stderr(out):
+            for body in LISTS:
+                for name, call in CALLS:
+                    call(body)
+        self.assertEqual(out.getvalue(), "")
+
+
+if __name__ == "__main__":
+    unittest.main()

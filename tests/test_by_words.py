@@ -1,0 +1,112 @@
+"""The answers beside a slow search that follows the document's words and none of the program's steps.
+
+Corners: a point is a mix of others if it is one of some of them that don't depend on one another.
+Sides: all a's of a box that is large enough are tried.
+"""
+
+import unittest
+from fractions import Fraction
+from itertools import combinations, combinations_with_replacement, product
+from math import gcd
+
+from known_bodies import flat, mask, rows
+from wholepoints.bodies import er_corners, er_sides
+
+
+def solve(columns, goal):
+    """The one way to make goal of the columns, or None if there's none or more than one."""
+    table = [[Fraction(column[k]) for column in columns] + [Fraction(goal[k])] for k in range(len(goal))]
+    for k in range(len(columns)):
+        head = next((row for row in table[k:] if row[k] != 0), None)
+        if head is None:
+            return None
+        table.remove(head)
+        table.insert(k, [x / head[k] for x in head])
+        table = [row if j == k else [x - row[k] * y for x, y in zip(row, table[k])] for j, row in enumerate(table)]
+    if any(row[-1] != 0 for row in table[len(columns):]):
+        return None
+    return [row[-1] for row in table[:len(columns)]]
+
+
+def is_mix(point, others):
+    goal = list(point) + [1]
+    for size in range(1, len(goal) + 1):
+        for chosen in combinations(others, size):
+            weights = solve([list(other) + [1] for other in chosen], goal)
+            if weights is not None and min(weights) >= 0:
+                return True
+    return False
+
+
+def corners_by_words(points):
+    return [
+        place for place, point in enumerate(points)
+        if not is_mix(point, sorted({other for other in points if other != point}))
+    ]
+
+
+def spans(points, size):
+    """Whether some of the points, with a 1 behind each, are size many that don't depend on one another."""
+    columns = [list(point) + [1] for point in points]
+    return any(solve(chosen, [0] * len(columns[0])) is not None for chosen in combinations(columns, size))
+
+
+def sides_by_words(d, points, farthest):
+    sides = []
+    for a in product(range(-farthest, farthest + 1), repeat=d):
+        if gcd(*a) == 1:
+            values = [sum(x * y for x, y in zip(a, point)) for point in points]
+            e = max(values)
+            if spans([point for point, value in zip(points, values) if value == e], d):
+                sides.append(a + (e,))
+    return sorted(sides)
+
+
+class ByWords(unittest.TestCase):
+    def check(self, d, points, farthest):
+        body = flat(d, points)
+        if not spans(points, d + 1):
+            self.assertEqual(er_corners(body), [-2], body)
+            self.assertEqual(er_sides(1000000, body), [-2], body)
+            return
+        self.assertEqual(er_corners(body), [mask(corners_by_words(points))], body)
+        self.assertEqual(er_sides(1000000, body), rows(d, sides_by_words(d, points, farthest)), body)
+
+    def test_one_dimension(self):
+        for n in (1, 2, 3):
+            for numbers in product(range(-4, 5), repeat=n):
+                self.check(1, [(x,) for x in numbers], 2)
+
+    def test_plane(self):
+        grid = list(product(range(3), repeat=2))
+        for n in (1, 2, 3, 4):
+            for points in combinations_with_replacement(grid, n):
+                self.check(2, list(points), 3)
+
+    def test_plane_far_points(self):
+        far = [(-4, -4), (4, -3), (-3, 4), (4, 4), (1, -4), (-4, 3), (0, 1), (2, 3)]
+        for n in (3, 4, 5, 8):
+            for points in combinations(far, n):
+                self.check(2, list(points), 8)
+
+    def test_space(self):
+        cube = list(product((0, 1), repeat=3))
+        for n in range(3, 9):
+            for points in combinations(cube, n):
+                self.check(3, list(points), 2)
+
+    def test_space_points_not_corners(self):
+        points = [(-1, -1, 0), (1, 0, 0), (0, 1, 1), (0, 0, -1), (0, 0, 0), (1, 1, 1), (1, 0, 0), (0, 0, 1)]
+        for n in (4, 5, 6, 8):
+            for chosen in list(combinations(points, n))[::3]:
+                self.check(3, list(chosen), 8)
+
+    def test_four_dimensions(self):
+        cube = list(product((0, 1), repeat=4))
+        for n, step in ((4, 601), (5, 397), (6, 907), (7, 1901), (8, 2203)):
+            for points in list(combinations(cube, n))[::step]:
+                self.check(4, list(points), 4)
+
+
+if __name__ == "__main__":
+    unittest.main()

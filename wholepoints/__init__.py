@@ -1,0 +1,1 @@
+"""Whole points in bodies: the calls are in wholepoints.bodies."""
