@@ -5,14 +5,19 @@ import io
 import unittest
 
 from known_bodies import KNOWN, NOT_BODIES, flat
-from wholepoints.bodies import er_corners, er_sides
+from known_counts import COUNTED
+from wholepoints.bodies import er_corners, er_count, er_poly, er_sides
 
 CALLS = [
     ("er_corners", er_corners),
     ("er_sides", lambda body: er_sides(1000000, body)),
     ("er_sides of most 0", lambda body: er_sides(0, body)),
+    ("er_count of t -3", lambda body: er_count(-3, body)),
+    ("er_count of t 0", lambda body: er_count(0, body)),
+    ("er_count of t 2", lambda body: er_count(2, body)),
+    ("er_poly", er_poly),
 ]
-BODIES = [flat(d, points) for name, d, points, corners, sides in KNOWN]
+BODIES = [flat(row[1], row[2]) for row in KNOWN + COUNTED]
 LISTS = BODIES + [body for name, body in NOT_BODIES]
 
 

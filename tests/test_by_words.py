@@ -5,27 +5,12 @@ Sides: all a's of a box that is large enough are tried.
 """
 
 import unittest
-from fractions import Fraction
 from itertools import combinations, combinations_with_replacement, product
 from math import gcd
 
 from known_bodies import flat, mask, rows
+from slow_search import solve, spans
 from wholepoints.bodies import er_corners, er_sides
-
-
-def solve(columns, goal):
-    """The one way to make goal of the columns, or None if there's none or more than one."""
-    table = [[Fraction(column[k]) for column in columns] + [Fraction(goal[k])] for k in range(len(goal))]
-    for k in range(len(columns)):
-        head = next((row for row in table[k:] if row[k] != 0), None)
-        if head is None:
-            return None
-        table.remove(head)
-        table.insert(k, [x / head[k] for x in head])
-        table = [row if j == k else [x - row[k] * y for x, y in zip(row, table[k])] for j, row in enumerate(table)]
-    if any(row[-1] != 0 for row in table[len(columns):]):
-        return None
-    return [row[-1] for row in table[:len(columns)]]
 
 
 def is_mix(point, others):
@@ -43,12 +28,6 @@ def corners_by_words(points):
         place for place, point in enumerate(points)
         if not is_mix(point, sorted({other for other in points if other != point}))
     ]
-
-
-def spans(points, size):
-    """Whether some of the points, with a 1 behind each, are size many that don't depend on one another."""
-    columns = [list(point) + [1] for point in points]
-    return any(solve(chosen, [0] * len(columns[0])) is not None for chosen in combinations(columns, size))
 
 
 def sides_by_words(d, points, farthest):

@@ -34,6 +34,23 @@ def er_sides(most, body):
     return answer
 
 
+def er_count(t, body):
+    points = points_of(body)
+    if not points:
+        return [NO_BODY]
+    return [0, len(whole_points(points, sides_of(points), t))]
+
+
+def er_poly(body):
+    points = points_of(body)
+    if not points:
+        return [NO_BODY]
+    total = [0] * (MOST_AXES + 1)
+    for j, h in enumerate(star_of(points)):
+        total = [x + y for x, y in zip(total, filled(falling(h, len(points[0]), j), MOST_AXES + 1))]
+    return [0] + total
+
+
 # An empty list stands for a body that isn't so: a body that is so has two points at the least.
 def points_of(body):
     d = body[0]
@@ -72,14 +89,88 @@ def sides_of(points):
 
 
 def row_of(side):
-    normal = list(side[0])
-    return normal + [0] * (MOST_AXES - len(normal)) + [side[1]]
+    return filled(side[0], MOST_AXES) + [side[1]]
+
+
+def filled(numbers, size):
+    return list(numbers) + [0] * (size - len(numbers))
 
 
 # A body that has room has a corner just where the sides that meet there leave no way to go along all of them.
 def is_corner(point, sides):
     meeting = [side[0] for side in sides if value_at(side[0], point) == side[1]]
     return rank(meeting) == len(point)
+
+
+# In order: those in t times the body or, where t is below 0, those inside -t times it.
+def whole_points(points, sides, t):
+    bounds = bounds_of(sides, t)
+    found = []
+    for start in starts_of(points, t):
+        found.extend([start + (x,) for x in last_numbers(start, bounds)])
+    return found
+
+
+# For whole numbers, below e is e - 1 at the most: what is inside has bounds of the same form.
+def bounds_of(sides, t):
+    if t < 0:
+        return [(normal, -t * e - 1) for normal, e in sides]
+    return [(normal, t * e) for normal, e in sides]
+
+
+# All that may stand ahead of a point's last number.
+def starts_of(points, t):
+    starts = [()]
+    for axis in range(len(points[0]) - 1):
+        ends = [abs(t) * point[axis] for point in points]
+        longer = []
+        for start in starts:
+            longer.extend([start + (x,) for x in range(min(ends), max(ends) + 1)])
+        starts = longer
+    return starts
+
+
+# A body ends both ways along its last axis, so there's a bound for either way.
+def last_numbers(start, bounds):
+    lows = []
+    highs = []
+    for normal, e in bounds:
+        left = e - value_at(normal[:-1], start)
+        last = normal[-1]
+        if last > 0:
+            highs.append(left // last)
+        elif last < 0:
+            lows.append(-(left // -last))
+        elif left < 0:
+            return []
+    return list(range(max(lows), min(highs) + 1))
+
+
+# h_0 to h_d. C(t + d - j, d) is 0 where j is above t and 1 where it's t: each count tells one h more.
+def star_of(points):
+    d = len(points[0])
+    sides = sides_of(points)
+    star = []
+    for t in range(d + 1):
+        told = sum([h * choose(t + d - j, d) for j, h in enumerate(star)])
+        star.append(len(whole_points(points, sides, t)) - told)
+    return star
+
+
+def choose(n, k):
+    found = 1
+    for i in range(k):
+        found = found * (n - i) // (i + 1)
+    return found
+
+
+# What stands before 1, t, ... t^d in d! h C(t + d - j, d): that's h (t + d - j) (t + d - j - 1) ... (t + 1 - j).
+def falling(h, d, j):
+    found = [h]
+    for i in range(d):
+        ahead = d - j - i
+        found = [ahead * x + y for x, y in zip(found + [0], [0] + found)]
+    return found
 
 
 def choices(points, size):
