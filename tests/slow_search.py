@@ -2,7 +2,7 @@
 
 from fractions import Fraction
 from itertools import combinations, product
-from math import lcm
+from math import gcd, lcm
 
 
 def solve(columns, goal):
@@ -24,6 +24,36 @@ def spans(points, size):
     """Whether some of the points, with a 1 behind each, are size many that don't depend on one another."""
     columns = [list(point) + [1] for point in points]
     return any(solve(chosen, [0] * len(columns[0])) is not None for chosen in combinations(columns, size))
+
+
+def is_mix(point, others):
+    """A point is a mix of others if it is one of some of them that don't depend on one another."""
+    goal = list(point) + [1]
+    for size in range(1, len(goal) + 1):
+        for chosen in combinations(others, size):
+            weights = solve([list(other) + [1] for other in chosen], goal)
+            if weights is not None and min(weights) >= 0:
+                return True
+    return False
+
+
+def corners_by_words(points):
+    return [
+        place for place, point in enumerate(points)
+        if not is_mix(point, sorted({other for other in points if other != point}))
+    ]
+
+
+def sides_by_words(d, points, farthest):
+    """All a's from -farthest to farthest are tried: that is to be large enough."""
+    sides = []
+    for a in product(range(-farthest, farthest + 1), repeat=d):
+        if gcd(*a) == 1:
+            values = [sum(x * y for x, y in zip(a, point)) for point in points]
+            e = max(values)
+            if spans([point for point, value in zip(points, values) if value == e], d):
+                sides.append(a + (e,))
+    return sorted(sides)
 
 
 def weights_of(chosen):

@@ -6,7 +6,7 @@ import unittest
 
 from known_bodies import KNOWN, NOT_BODIES, flat
 from known_counts import COUNTED
-from wholepoints.bodies import er_corners, er_count, er_poly, er_sides
+from wholepoints.bodies import er_corners, er_count, er_mirror, er_poly, er_sides, er_star
 
 CALLS = [
     ("er_corners", er_corners),
@@ -16,6 +16,8 @@ CALLS = [
     ("er_count of t 0", lambda body: er_count(0, body)),
     ("er_count of t 2", lambda body: er_count(2, body)),
     ("er_poly", er_poly),
+    ("er_star", er_star),
+    ("er_mirror", er_mirror),
 ]
 BODIES = [flat(row[1], row[2]) for row in KNOWN + COUNTED]
 LISTS = BODIES + [body for name, body in NOT_BODIES]

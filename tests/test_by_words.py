@@ -1,44 +1,11 @@
-"""The answers beside a slow search that follows the document's words and none of the program's steps.
-
-Corners: a point is a mix of others if it is one of some of them that don't depend on one another.
-Sides: all a's of a box that is large enough are tried.
-"""
+"""Promises 1 and 2 beside a slow search that follows the document's words and none of the program's steps."""
 
 import unittest
 from itertools import combinations, combinations_with_replacement, product
-from math import gcd
 
 from known_bodies import flat, mask, rows
-from slow_search import solve, spans
+from slow_search import corners_by_words, sides_by_words, spans
 from wholepoints.bodies import er_corners, er_sides
-
-
-def is_mix(point, others):
-    goal = list(point) + [1]
-    for size in range(1, len(goal) + 1):
-        for chosen in combinations(others, size):
-            weights = solve([list(other) + [1] for other in chosen], goal)
-            if weights is not None and min(weights) >= 0:
-                return True
-    return False
-
-
-def corners_by_words(points):
-    return [
-        place for place, point in enumerate(points)
-        if not is_mix(point, sorted({other for other in points if other != point}))
-    ]
-
-
-def sides_by_words(d, points, farthest):
-    sides = []
-    for a in product(range(-farthest, farthest + 1), repeat=d):
-        if gcd(*a) == 1:
-            values = [sum(x * y for x, y in zip(a, point)) for point in points]
-            e = max(values)
-            if spans([point for point, value in zip(points, values) if value == e], d):
-                sides.append(a + (e,))
-    return sorted(sides)
 
 
 class ByWords(unittest.TestCase):

@@ -51,6 +51,25 @@ def er_poly(body):
     return [0] + total
 
 
+def er_star(body):
+    points = points_of(body)
+    if not points:
+        return [NO_BODY]
+    star = star_of(points)
+    return [sum(star)] + filled(star, MOST_AXES + 1)
+
+
+def er_mirror(body):
+    points = points_of(body)
+    if not points:
+        return [NO_BODY]
+    sides = sides_of(points)
+    inside = whole_points(points, sides, -1)
+    if len(inside) == 1 and all([value_at(normal, inside[0]) == e - 1 for normal, e in sides]):
+        return [1] + filled(inside[0], MOST_AXES)
+    return [0]
+
+
 # An empty list stands for a body that isn't so: a body that is so has two points at the least.
 def points_of(body):
     d = body[0]
