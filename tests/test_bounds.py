@@ -3,28 +3,40 @@
 import contextlib
 import io
 import unittest
+from unittest import mock
 
 from known_bodies import KNOWN, NOT_BODIES, flat
 from known_counts import COUNTED
-from wholepoints.bodies import er_corners, er_count, er_mirror, er_poly, er_sides, er_star
+from wholepoints.bodies import er_alike, er_corners, er_count, er_mirror, er_poly, er_sides, er_star, er_sums
 
-CALLS = [
+SQUARE = flat(2, [(0, 0), (1, 0), (0, 1), (1, 1)])
+FOR_ALL = [
     ("er_corners", er_corners),
     ("er_sides", lambda body: er_sides(1000000, body)),
     ("er_sides of most 0", lambda body: er_sides(0, body)),
+]
+UP_TO_SPACE = [
     ("er_count of t -3", lambda body: er_count(-3, body)),
     ("er_count of t 0", lambda body: er_count(0, body)),
     ("er_count of t 2", lambda body: er_count(2, body)),
     ("er_poly", er_poly),
     ("er_star", er_star),
     ("er_mirror", er_mirror),
+    ("er_sums", er_sums),
+    ("er_alike of a body and itself", lambda body: er_alike(body, body)),
+    ("er_alike, as the first", lambda body: er_alike(body, SQUARE)),
+    ("er_alike, as the second", lambda body: er_alike(SQUARE, body)),
 ]
+CALLS = FOR_ALL + UP_TO_SPACE
 BODIES = [flat(row[1], row[2]) for row in KNOWN + COUNTED]
-LISTS = BODIES + [body for name, body in NOT_BODIES]
+# Each call and what it is asked: the calls up to space aren't asked four dimensions or more than 8 points.
+ASKED = [(name, call, body) for body in BODIES for name, call in FOR_ALL]
+ASKED += [(name, call, body) for body in BODIES if body[0] < 4 and body[1] < 9 for name, call in UP_TO_SPACE]
+ASKED += [(name, call, body) for what, body in NOT_BODIES for name, call in CALLS]
 
 
 def refuse(*told, **named):
-    raise AssertionError("what was handed in is changed")
+    raise AssertionError("this is not to be done")
 
 
 class Fixed(list):
@@ -49,44 +61,51 @@ class Bounds(unittest.TestCase):
         self.assertEqual(er_corners([4, 5] + [-4] * 4 + [4] + [-4] * 4 + [4] + [-4] * 4 + [4] + [-4] * 4 + [4]), [31])
 
     def test_what_is_handed_in_stays(self):
-        for body in LISTS:
-            for name, call in CALLS:
-                handed = list(body)
-                call(handed)
-                self.assertEqual(handed, body, name)
+        for name, call, body in ASKED:
+            handed = list(body)
+            call(handed)
+            self.assertEqual(handed, body, name)
 
     def test_what_is_handed_in_is_not_changed_for_a_while_either(self):
-        for body in LISTS:
-            for name, call in CALLS:
-                self.assertEqual(call(Fixed(body)), call(body), name)
+        for name, call, body in ASKED:
+            self.assertEqual(call(Fixed(body)), call(body), name)
+
+    def test_both_bodies_stay(self):
+        plane = [body for body in BODIES if body[0] == 2 and body[1] < 9]
+        for body in plane + [body for name, body in NOT_BODIES]:
+            for other in (plane[0], SQUARE, body):
+                first, second = list(body), list(other)
+                er_alike(first, second)
+                self.assertEqual((first, second), (body, other))
+                self.assertEqual(er_alike(Fixed(body), Fixed(other)), er_alike(body, other))
+                self.assertEqual(er_alike(Fixed(other), Fixed(body)), er_alike(other, body))
 
     def test_the_same_call_gives_the_same_answer(self):
-        first = [call(body) for body in LISTS for name, call in CALLS]
-        again = [call(body) for body in LISTS for name, call in CALLS]
-        self.assertEqual(first, again)
+        first = [call(body) for name, call, body in ASKED]
+        again = [call(body) for name, call, body in reversed(ASKED)]
+        self.assertEqual(first, again[::-1])
 
     def test_an_answer_is_not_kept(self):
-        for body in LISTS:
-            for name, call in CALLS:
-                answer = call(body)
-                kept = list(answer)
-                answer.append(7)
-                self.assertEqual(call(body), kept, name)
+        for name, call, body in ASKED:
+            answer = call(body)
+            kept = list(answer)
+            answer.append(7)
+            self.assertEqual(call(body), kept, name)
 
     def test_answers_are_lists_of_whole_numbers(self):
-        for body in LISTS:
-            for name, call in CALLS:
-                answer = call(body)
-                self.assertIs(type(answer), list, name)
-                for number in answer:
-                    self.assertIs(type(number), int, name)
+        for name, call, body in ASKED:
+            answer = call(body)
+            self.assertIs(type(answer), list, name)
+            for number in answer:
+                self.assertIs(type(number), int, name)
 
-    def test_nothing_is_printed(self):
+    def test_nothing_is_printed_read_or_imported(self):
         out = io.StringIO()
         with contextlib.redirect_stdout(out), contextlib.redirect_stderr(out):
-            for body in LISTS:
-                for name, call in CALLS:
-                    call(body)
+            with mock.patch("builtins.open", refuse), mock.patch("builtins.input", refuse):
+                with mock.patch("builtins.__import__", refuse):
+                    for name, call, body in ASKED:
+                        call(body)
         self.assertEqual(out.getvalue(), "")
 
 

@@ -29,8 +29,8 @@ def er_sides(most, body):
     if len(sides) > most:
         return [TOO_MANY]
     answer = [len(sides)]
-    for side in sides:
-        answer.extend(row_of(side))
+    for normal, e in sides:
+        answer.extend(filled(normal, MOST_AXES) + [e])
     return answer
 
 
@@ -70,6 +70,40 @@ def er_mirror(body):
     return [0]
 
 
+def er_sums(body):
+    points = points_of(body)
+    if not points:
+        return [NO_BODY]
+    sides = sides_of(points)
+    # The body's own points lead, as one of its corners is a part of most sums.
+    parts = points + whole_points(points, sides, 1)
+    # A body can be cut into simplices that have no whole points but their corners. From each whole point of t times
+    # one of these, t of d or more, a corner can be taken off: no t of d or more is the least that fails.
+    for t in range(2, len(points[0])):
+        fewer = dict([(point, True) for point in whole_points(points, sides, t - 1)])
+        for point in whole_points(points, sides, t):
+            if not is_sum(point, parts, fewer):
+                return [t] + filled(point, MOST_AXES) + [t]
+    return [0]
+
+
+def er_alike(body, other):
+    points = points_of(body)
+    goals = points_of(other)
+    if not points or not goals:
+        return [NO_BODY]
+    if len(points[0]) != len(goals[0]):
+        return [0]
+    maps = maps_between(corners_of(points), corners_of(goals))
+    if not maps:
+        return [0]
+    first = min(maps)
+    numbers = []
+    for row in first[0]:
+        numbers.extend(filled(row, MOST_AXES))
+    return [1] + filled(numbers, MOST_AXES * MOST_AXES) + filled(first[1], MOST_AXES)
+
+
 # An empty list stands for a body that isn't so: a body that is so has two points at the least.
 def points_of(body):
     d = body[0]
@@ -80,15 +114,15 @@ def points_of(body):
     if min(numbers) < -FARTHEST or max(numbers) > FARTHEST:
         return []
     points = [tuple(numbers[d * k:d * k + d]) for k in range(n)]
-    if not have_room(points):
+    if room_of(points) <= d:
         return []
     return points
 
 
 # With a 1 behind each point, a relation a_1 x_1 + ... + a_d x_d = e that all of them
-# keep is a relation between the columns, and lowers the rank.
-def have_room(points):
-    return rank([point + (1,) for point in points]) == len(points[0]) + 1
+# keep is a relation between the columns, and lowers the rank: it's d + 1 if there's none.
+def room_of(points):
+    return rank([point + (1,) for point in points])
 
 
 # A side is (the a's, e). Sorting these sorts the rows too, as all have zeros in the same places.
@@ -100,15 +134,12 @@ def sides_of(points):
         if any(normal):
             least = without_common_divisor(normal)
             # Which way is outward isn't known ahead: at the most one of the two passes.
-            for outward in (least, opposite(least)):
+            for sign in (1, -1):
+                outward = tuple([sign * a for a in least])
                 e = value_at(outward, chosen[0])
                 if all([value_at(outward, point) <= e for point in points]):
                     found[(outward, e)] = True
     return sorted(found)
-
-
-def row_of(side):
-    return filled(side[0], MOST_AXES) + [side[1]]
 
 
 def filled(numbers, size):
@@ -192,6 +223,81 @@ def falling(h, d, j):
     return found
 
 
+# All points of fewer are sums by themselves, of one part less.
+def is_sum(point, parts, fewer):
+    for part in parts:
+        if difference(point, part) in fewer:
+            return True
+    return False
+
+
+def corners_of(points):
+    sides = sides_of(points)
+    return sorted(set([point for point in points if is_corner(point, sides)]))
+
+
+# All (M, v) that take the corners to the goals. What M and v make of d + 1 corners with room between them tells both.
+def maps_between(corners, goals):
+    if len(corners) != len(goals):
+        return []
+    base = base_of(corners)
+    ways = [difference(corner, base[0]) for corner in base[1:]]
+    undone = adjugate(ways)
+    divisor = determinant(ways)
+    found = []
+    for images in arrangements(goals, len(base)):
+        square = square_of(undone, divisor, images)
+        if square and abs(determinant(square)) == 1:
+            v = difference(images[0], times(square, base[0]))
+            if sorted([moved(times(square, corner), v) for corner in corners]) == goals:
+                found.append((square, v))
+    return found
+
+
+def base_of(corners):
+    base = []
+    for corner in corners:
+        if room_of(base + [corner]) > len(base):
+            base.append(corner)
+    return base
+
+
+def arrangements(points, size):
+    begun = [[]]
+    for place in range(size):
+        longer = []
+        for chosen in begun:
+            longer.extend([chosen + [point] for point in points if point not in chosen])
+        begun = longer
+    return begun
+
+
+# M, by Cramer's rule: undone and divisor come from the ways between the corners that the images are of.
+# No rows at all where a number of M isn't whole.
+def square_of(undone, divisor, images):
+    ways = [difference(image, images[0]) for image in images[1:]]
+    square = []
+    for axis in range(len(ways)):
+        row = times(undone, [way[axis] for way in ways])
+        if any([x % divisor for x in row]):
+            return []
+        square.append(tuple([x // divisor for x in row]))
+    return square
+
+
+# The rows' inverse times their determinant.
+def adjugate(rows):
+    found = []
+    for column in range(len(rows)):
+        found.append([cofactor(rows, place, column) for place in range(len(rows))])
+    return found
+
+
+def cofactor(rows, place, column):
+    sign = -1 if (place + column) % 2 == 1 else 1
+    return sign * determinant([without_column(row, column) for row in rows[:place] + rows[place + 1:]])
+
+
 def choices(points, size):
     begun = [[]]
     for point in points:
@@ -256,8 +362,12 @@ def difference(point, other):
     return tuple([x - y for x, y in zip(point, other)])
 
 
-def opposite(normal):
-    return tuple([-a for a in normal])
+def moved(point, way):
+    return tuple([x + y for x, y in zip(point, way)])
+
+
+def times(rows, point):
+    return tuple([value_at(row, point) for row in rows])
 
 
 def value_at(normal, point):
