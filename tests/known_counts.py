@@ -74,7 +74,8 @@ COUNTED = [
     # Two edges without whole points between, at x of 0 and x of 1; r is 4 * 5 + 7 * 5
     ("large tetrahedron of corners alone", 3, [(0, -1, 1), (0, 3, -4), (1, -4, -3), (1, 3, 2)],
      [216, 54, 0, 1, 4, 64, 236], [6, -43, 6, 55, 0]),
-    # Its four corners, the origin alone inside, five sixths, rim triangles without whole points: 5 t^3 + 6 t^2 + 13 t + 6
+    # Its corners and, alone inside, the origin; five sixths, sides without other whole points:
+    # (5 t^3 + 6 t^2 + 13 t + 6) / 6
     ("tetrahedron round the origin", 3, [(1, 0, 0), (0, 1, 0), (0, 0, 1), (-1, -1, -2)],
      [19, 6, 1, 1, 5, 16, 39], [6, 13, 6, 5, 0]),
     # C(8 t + 3, 3), inside C(8 t - 1, 3)
